@@ -1,0 +1,125 @@
+"""Calls on one tent, answered in order."""
+
+from foldedtent.calls import BEGIN, COUNT, FITS, LEAD, ORDER, PUT, ROW, cut_calls
+from foldedtent.places import lead_of, put_once, row_of, shortened
+from foldedtent.rows import LEFT, RIGHT, compare, count_fitting, row_fits
+
+NOT_BEGUN = -11
+NOT_AS_TOLD = -22
+
+MOST_B = 400
+MOST_Q = 1000
+MOST_LETTERS = 16
+MOST_COUNTED = 9
+
+
+class NotBuilt(Exception):
+    """A call of the interface that this program doesn't answer yet."""
+
+
+class Tent:
+    """By how much the line is drawn out: a by b. While b is 0 nothing is begun."""
+
+    def __init__(self):
+        self.a = 0
+        self.b = 0
+
+
+def is_place(p, q):
+    return 1 <= q <= MOST_Q and p <= q
+
+
+def is_length(k):
+    return 1 <= k <= MOST_LETTERS
+
+
+def is_row_to_order(row):
+    return len(row) <= MOST_LETTERS and all([letter <= RIGHT for letter in row])
+
+
+def is_row_of_sides(row):
+    return is_length(len(row)) and all([letter in (LEFT, RIGHT) for letter in row])
+
+
+def answer_begin(tent, a, b):
+    if not (1 <= b <= MOST_B and b < a <= 2 * b):
+        return [NOT_AS_TOLD]
+    tent.a = a
+    tent.b = b
+    return [0]
+
+
+def answer_put(tent, p, q):
+    if not is_place(p, q):
+        return [NOT_AS_TOLD]
+    place = shortened(put_once(tent.a, tent.b, (p, q)))
+    return [0, place[0], place[1]]
+
+
+def answer_row(tent, p, q, k):
+    if not (is_place(p, q) and is_length(k)):
+        return [NOT_AS_TOLD]
+    return [k] + row_of(tent.a, tent.b, (p, q), k)
+
+
+def answer_lead(tent, k):
+    if not is_length(k):
+        return [NOT_AS_TOLD]
+    return [k] + lead_of(tent.a, tent.b, k)
+
+
+def answer_order(row, other):
+    if not (is_row_to_order(row) and is_row_to_order(other)):
+        return [NOT_AS_TOLD]
+    return [compare(row, other)]
+
+
+def answer_fits(tent, row):
+    if not is_row_of_sides(row):
+        return [NOT_AS_TOLD]
+    lead = lead_of(tent.a, tent.b, len(row))
+    return [1 if row_fits(row, lead) else 0]
+
+
+def answer_count(tent, k):
+    if not 1 <= k <= MOST_COUNTED:
+        return [NOT_AS_TOLD]
+    return [count_fitting(lead_of(tent.a, tent.b, k), k)]
+
+
+def answer_begun(tent, call):
+    """What a call other than begin answers on a tent that is begun."""
+    numbers = call.numbers
+    rows = call.rows
+    if call.number == PUT:
+        return answer_put(tent, numbers[0], numbers[1])
+    if call.number == ROW:
+        return answer_row(tent, numbers[0], numbers[1], numbers[2])
+    if call.number == LEAD:
+        return answer_lead(tent, numbers[0])
+    if call.number == ORDER:
+        return answer_order(rows[0], rows[1])
+    if call.number == FITS:
+        return answer_fits(tent, rows[0])
+    if call.number == COUNT:
+        return answer_count(tent, numbers[0])
+    raise NotBuilt("this call is not answered yet")
+
+
+def answer_call(tent, call):
+    if call.number == BEGIN:
+        return answer_begin(tent, call.numbers[0], call.numbers[1])
+    if tent.b == 0:
+        return [NOT_BEGUN]
+    return answer_begun(tent, call)
+
+
+def answers(calls):
+    """For each call, in order: how many numbers it answers, then these."""
+    tent = Tent()
+    given = []
+    for call in cut_calls(calls):
+        answer = answer_call(tent, call)
+        given.append(len(answer))
+        given.extend(answer)
+    return given
