@@ -7,9 +7,14 @@ LEAD = 3
 ORDER = 4
 FITS = 5
 COUNT = 6
+HOLDS = 7
+LAPS = 8
+COMES = 9
+ROUNDS = 10
+ROUND_OF = 11
+INNER = 12
 
 # By a call's number: how many whole numbers it has, and how many rows behind these.
-# All calls of the interface stand here, so that a list can be cut whichever of them it holds.
 HOW_MANY_NUMBERS = (2, 2, 3, 1, 0, 0, 1, 0, 1, 0, 1, 2, 0, 0)
 HOW_MANY_ROWS = (0, 0, 0, 0, 2, 1, 0, 1, 0, 1, 0, 0, 0, 0)
 

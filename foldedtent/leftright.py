@@ -1,20 +1,21 @@
 """Calls on one tent, answered in order."""
 
-from foldedtent.calls import BEGIN, COUNT, FITS, LEAD, ORDER, PUT, ROW, cut_calls
+from foldedtent.calls import BEGIN, COMES, COUNT, FITS, HOLDS, INNER, LAPS, LEAD, ORDER, PUT, ROUND_OF, ROUNDS, ROW
+from foldedtent.calls import cut_calls
 from foldedtent.places import lead_of, put_once, row_of, shortened
+from foldedtent.rounds import place_back_along, rounds_of
 from foldedtent.rows import LEFT, RIGHT, compare, count_fitting, row_fits
+from foldedtent.stretches import count_laps, stretch_of
 
 NOT_BEGUN = -11
 NOT_AS_TOLD = -22
+TOO_MANY = -28
+THERE_IS_NONE = -33
 
 MOST_B = 400
 MOST_Q = 1000
 MOST_LETTERS = 16
-MOST_COUNTED = 9
-
-
-class NotBuilt(Exception):
-    """A call of the interface that this program doesn't answer yet."""
+MOST_STEPS = 9
 
 
 class Tent:
@@ -31,6 +32,10 @@ def is_place(p, q):
 
 def is_length(k):
     return 1 <= k <= MOST_LETTERS
+
+
+def is_number_of_steps(k):
+    return 1 <= k <= MOST_STEPS
 
 
 def is_row_to_order(row):
@@ -81,29 +86,97 @@ def answer_fits(tent, row):
     return [1 if row_fits(row, lead) else 0]
 
 
+def answer_holds(tent, row):
+    if not is_row_of_sides(row):
+        return [NOT_AS_TOLD]
+    ends = stretch_of(tent.a, tent.b, row)
+    if ends is None:
+        return [THERE_IS_NONE]
+    return [0] + list(ends[0]) + list(ends[1])
+
+
+def answer_comes(tent, row):
+    if not is_row_of_sides(row):
+        return [NOT_AS_TOLD]
+    place = place_back_along(tent.a, tent.b, row)
+    if place is None:
+        return [THERE_IS_NONE]
+    return [0] + list(place)
+
+
 def answer_count(tent, k):
-    if not 1 <= k <= MOST_COUNTED:
+    if not is_number_of_steps(k):
         return [NOT_AS_TOLD]
     return [count_fitting(lead_of(tent.a, tent.b, k), k)]
 
 
+def answer_laps(tent, k):
+    if not is_number_of_steps(k):
+        return [NOT_AS_TOLD]
+    return [count_laps(tent.a, tent.b, k)]
+
+
+def answer_rounds(tent, k):
+    if not is_number_of_steps(k):
+        return [NOT_AS_TOLD]
+    return [len(rounds_of(tent.a, tent.b, k))]
+
+
+def answer_round_of(tent, k, j):
+    if not is_number_of_steps(k):
+        return [NOT_AS_TOLD]
+    rows = rounds_of(tent.a, tent.b, k)
+    if j >= len(rows):
+        return [THERE_IS_NONE]
+    return [k] + rows[j]
+
+
+def answer_inner(tent):
+    a = tent.a * tent.a
+    b = tent.b * tent.b
+    if a > 2 * b:
+        return [THERE_IS_NONE]
+    if b > MOST_B:
+        return [TOO_MANY]
+    tent.a = a
+    tent.b = b
+    return answer_state(tent)
+
+
+def answer_state(tent):
+    return [tent.a, tent.b]
+
+
 def answer_begun(tent, call):
     """What a call other than begin answers on a tent that is begun."""
+    number = call.number
     numbers = call.numbers
     rows = call.rows
-    if call.number == PUT:
+    if number == PUT:
         return answer_put(tent, numbers[0], numbers[1])
-    if call.number == ROW:
+    if number == ROW:
         return answer_row(tent, numbers[0], numbers[1], numbers[2])
-    if call.number == LEAD:
+    if number == LEAD:
         return answer_lead(tent, numbers[0])
-    if call.number == ORDER:
+    if number == ORDER:
         return answer_order(rows[0], rows[1])
-    if call.number == FITS:
+    if number == FITS:
         return answer_fits(tent, rows[0])
-    if call.number == COUNT:
+    if number == COUNT:
         return answer_count(tent, numbers[0])
-    raise NotBuilt("this call is not answered yet")
+    if number == HOLDS:
+        return answer_holds(tent, rows[0])
+    if number == LAPS:
+        return answer_laps(tent, numbers[0])
+    if number == COMES:
+        return answer_comes(tent, rows[0])
+    if number == ROUNDS:
+        return answer_rounds(tent, numbers[0])
+    if number == ROUND_OF:
+        return answer_round_of(tent, numbers[0], numbers[1])
+    if number == INNER:
+        return answer_inner(tent)
+    return answer_state(tent)
 
 
 def answer_call(tent, call):

@@ -37,6 +37,14 @@ def with_a_letter_ahead(rows):
     return longer
 
 
+def all_rows(k):
+    """All rows of 0 and 2, of k letters: where two, from their last letter on, first differ, that with 0 is first."""
+    rows = [[]]
+    for step in range(k):
+        rows = with_a_letter_ahead(rows)
+    return rows
+
+
 def count_fitting(lead, k):
     """How many rows of 0 and 2, of k letters, fit; the lead has k letters or more."""
     # A row fits just if what is behind its first letter fits and isn't greater than the lead itself.

@@ -1,12 +1,13 @@
 import unittest
 
 from foldedtent.leftright import answers
-from tests.helper import GREATEST, ask, begin, count, fits, lead, order, put, row
+from tests.helper import (GREATEST, ask, begin, comes, count, fits, holds, inner, laps, lead, order, put, round_of,
+                          rounds, row, state)
 
-OTHERS = [put(1, 3), row(1, 3, 4), lead(3), order([0], [2]), fits([0, 2]), count(2)]
-NOT_AS_TOLD_OTHERS = [put(1, 0), row(2, 1, 17), lead(0), order([3], []), fits([]), count(10)]
-# The calls of the interface that have no answer of their own yet are not begun either.
-LATER = [[7, 2, 0, 2], [8, 3], [9, 1, 2], [10, 3], [11, 3, 0], [12], [13]]
+OTHERS = [put(1, 3), row(1, 3, 4), lead(3), order([0], [2]), fits([0, 2]), count(2), holds([0, 2]), laps(3),
+          comes([2]), rounds(2), round_of(2, 0), inner(), state()]
+NOT_AS_TOLD_OTHERS = [put(1, 0), row(2, 1, 17), lead(0), order([3], []), fits([]), count(10), holds([]), laps(0),
+                      comes([1]), rounds(10), round_of(0, GREATEST)]
 
 
 class Begin(unittest.TestCase):
@@ -39,16 +40,16 @@ class Begin(unittest.TestCase):
 
 class NotBegun(unittest.TestCase):
     def test_each_call_ahead_of_begin(self):
-        for call in OTHERS + NOT_AS_TOLD_OTHERS + LATER:
+        for call in OTHERS + NOT_AS_TOLD_OTHERS:
             self.assertEqual(answers(call), [1, -11], call)
 
     def test_one_behind_another(self):
-        self.assertEqual(ask(*OTHERS, *NOT_AS_TOLD_OTHERS, *LATER), [[-11]] * 19)
+        self.assertEqual(ask(*OTHERS, *NOT_AS_TOLD_OTHERS), [[-11]] * 24)
 
     def test_behind_a_refused_begin(self):
         for refused in (begin(1, 1), begin(3, 1), begin(2, 0), begin(601, 401), begin(GREATEST, GREATEST)):
-            found = ask(refused, *OTHERS, *NOT_AS_TOLD_OTHERS, *LATER)
-            self.assertEqual(found, [[-22]] + [[-11]] * 19, refused)
+            found = ask(refused, *OTHERS, *NOT_AS_TOLD_OTHERS)
+            self.assertEqual(found, [[-22]] + [[-11]] * 24, refused)
 
     def test_begin_behind_refusals(self):
         found = ask(lead(3), begin(1, 1), lead(3), begin(2, 1), lead(3), lead(0))

@@ -1,19 +1,14 @@
-import itertools
 import unittest
 from fractions import Fraction
 
 from foldedtent.leftright import answers
-from tests.helper import GREATEST, Model, ask_tent, count, fits, lead, rows_with_a_stretch, sides
+from tests.helper import GREATEST, Model, all_rows, ask_tent, count, fits, lead, rows_with_a_stretch, sides
 
 SHARES = ((2, 1), (3, 2), (5, 4), (7, 5), (8, 5), (13, 8), (401, 400), (799, 400), (283, 200), (141, 100))
 
 
 def ask_fits(a, b, *texts):
     return [answer[0] for answer in ask_tent(a, b, *[fits(sides(text)) for text in texts])]
-
-
-def all_rows(k):
-    return [list(each) for each in itertools.product((0, 2), repeat=k)]
 
 
 class Fits(unittest.TestCase):

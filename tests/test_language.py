@@ -69,6 +69,35 @@ class Language(unittest.TestCase):
                 if isinstance(node.func, ast.Attribute):
                     self.assertIn(node.func.attr, METHODS)
 
+    def test_values(self):
+        for path in FILES:
+            for node in nodes_of(path, ast.Constant):
+                self.assertIn(node.value.__class__, (int, str, bool, None.__class__), (path.name, node.lineno))
+            for node in nodes_of(path, ast.Compare):
+                if any(isinstance(each, (ast.Is, ast.IsNot)) for each in node.ops):
+                    self.assertEqual([each.value for each in node.comparators], [None], (path.name, node.lineno))
+            for node in nodes_of(path, ast.comprehension):
+                self.assertLessEqual(len(node.ifs), 1)
+            for node in nodes_of(path, ast.ListComp):
+                self.assertEqual(len(node.generators), 1)
+
+    def test_each_name_once(self):
+        for path in FILES:
+            bound = []
+            for node in ast.parse(path.read_text()).body:
+                if isinstance(node, ast.ImportFrom):
+                    bound.extend([each.asname or each.name for each in node.names])
+                elif isinstance(node, ast.Assign):
+                    bound.append(node.targets[0].id)
+                elif not isinstance(node, ast.Expr):
+                    bound.append(node.name)
+            self.assertEqual(sorted(bound), sorted(set(bound)), path.name)
+            local = [node.arg for node in nodes_of(path, ast.arg)]
+            for function in nodes_of(path, ast.FunctionDef):
+                local.extend([node.id for node in ast.walk(function)
+                              if isinstance(node, ast.Name) and isinstance(node.ctx, ast.Store)])
+            self.assertEqual(set(local) & set(bound), set(), path.name)
+
     def test_imports(self):
         tops = {}
         for path in FILES:

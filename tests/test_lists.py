@@ -5,9 +5,11 @@ import unittest
 
 from foldedtent.leftright import answers
 from tests import helper
-from tests.helper import GREATEST, Model, ask, begin, count, cut, fits, joined, lead, order, put, row
+from tests.helper import (GREATEST, Model, ask, begin, comes, count, cut, fits, holds, inner, joined, laps, lead, order,
+                          put, round_of, rounds, row, state)
 
-NAMES = ("begin", "put", "row", "lead", "order", "fits", "count")
+NAMES = ("begin", "put", "row", "lead", "order", "fits", "count", "holds", "laps", "comes", "rounds", "round_of",
+         "inner", "state")
 
 
 def any_letters(source, letters):
@@ -17,7 +19,7 @@ def any_letters(source, letters):
 def any_arguments(source, name):
     """Arguments about the bounds, so that both answers and refusals come about."""
     if name == "begin":
-        b = source.choice((0, 1, 2, 5, 100, 399, 400, 401, GREATEST))
+        b = source.choice((0, 1, 2, 5, 20, 21, 100, 399, 400, 401, GREATEST))
         return b + source.choice((0, 1, b // 2, b // 3, b, b + 1)) if b < GREATEST else GREATEST, b
     q = source.choice((0, 1, 2, 3, 10, 999, 1000, 1001, GREATEST))
     p = source.choice((0, 1, q // 2, q // 3, q - q // 3, q, min(q + 1, GREATEST)))
@@ -29,9 +31,11 @@ def any_arguments(source, name):
     if name == "order":
         letters = source.choice(((0, 2), (0, 1, 2), (2,), (0, 1, 2, 3)))
         return any_letters(source, letters), any_letters(source, letters)
-    if name == "fits":
+    if name in ("fits", "holds", "comes"):
         return (any_letters(source, source.choice(((0, 2), (2, 2, 0), (0, 2, 2, 2, 2, 1)))),)
-    return (k,)
+    if name == "round_of":
+        return min(k, source.choice((8, 9, GREATEST))), source.choice((0, 0, 1, 2, 3, 8, 9, 29, 30, 55, 56, GREATEST))
+    return () if name in ("inner", "state") else (k,)
 
 
 def any_list(source, how_many):
@@ -47,9 +51,14 @@ def any_list(source, how_many):
 
 
 class Lists(unittest.TestCase):
-    def test_all_seven_calls(self):
+    def test_calls_0_to_6(self):
         handed_in = [0, 3, 2, 1, 1, 2, 2, 1, 3, 3, 3, 4, 4, 2, 2, 0, 1, 2, 5, 2, 0, 2, 6, 4]
         given = [1, 0, 3, 0, 3, 4, 4, 3, 0, 1, 2, 5, 4, 2, 0, 2, 2, 1, 1, 1, 1, 1, 14]
+        self.assertEqual(answers(handed_in), given)
+
+    def test_calls_7_to_13(self):
+        handed_in = [0, 4, 3, 7, 2, 0, 2, 8, 3, 9, 2, 2, 0, 10, 2, 11, 2, 0, 12, 13]
+        given = [1, 0, 5, 0, 3, 8, 1, 2, 1, 8, 3, 0, 16, 25, 1, 1, 3, 2, 2, 0, 2, 16, 9, 2, 16, 9]
         self.assertEqual(answers(handed_in), given)
 
     def test_any_calls(self):
@@ -62,7 +71,7 @@ class Lists(unittest.TestCase):
         calls, expected = any_list(random.Random(400), 400)
         self.assertEqual(len(calls), 400)
         self.assertEqual(ask(*calls), expected)
-        self.assertEqual({number for answer in expected for number in answer if number < 0}, {-11, -22})
+        self.assertEqual({number for answer in expected for number in answer if number < 0}, {-11, -22, -28, -33})
 
     def test_the_longest_list(self):
         handed_in = order([2] * 20, [0] * 20) * 400
@@ -74,10 +83,28 @@ class Lists(unittest.TestCase):
         self.assertEqual(ask(begin(2, 1), *[count(9)] * 399), [[0]] + [[512]] * 399)
         self.assertEqual(ask(begin(2, 1), *[row(1, 1, 16)] * 399), [[0]] + [[16, 2] + [0] * 15] * 399)
 
+    def test_400_laps_and_rounds(self):
+        self.assertEqual(ask(begin(2, 1), *[laps(9)] * 399), [[0]] + [[512]] * 399)
+        self.assertEqual(ask(begin(799, 400), *[rounds(9)] * 399), [[0]] + [[56]] * 399)
+        last = [9, 2, 0, 2, 2, 2, 2, 2, 2, 2]
+        self.assertEqual(ask(begin(800, 400), *[round_of(9, 55)] * 399), [[0]] + [last] * 399)
+        self.assertEqual(ask(*[begin(799, 400), rounds(9)] * 200), [[0], [56]] * 200)
+
+    def test_400_rows_of_16_letters(self):
+        self.assertEqual(ask(begin(2, 1), *[comes([2] * 16)] * 399), [[0]] + [[0, 2, 3]] * 399)
+        self.assertEqual(ask(begin(2, 1), *[holds([0] * 16)] * 399), [[0]] + [[0, 0, 1, 1, 65536]] * 399)
+
+    def test_400_inner_tents(self):
+        found = ask(*[begin(5, 4), inner(), inner(), state()] * 100)
+        self.assertEqual(found, [[0], [25, 16], [-33], [25, 16]] * 100)
+
     def test_refused_rows_are_gone_past(self):
         found = ask(begin(2, 1), fits([]), lead(1), fits([0] * 20), lead(2), fits([GREATEST] * 17), count(1),
                     order([], [5] * 20), put(0, 1), order([0] * 17, []), row(0, 1, 1))
         self.assertEqual(found, [[0], [-22], [1, 2], [-22], [2, 2, 0], [-22], [2], [-22], [0, 0, 1], [-22], [1, 0]])
+        found = ask(begin(2, 1), holds([]), laps(1), holds([7] * 20), rounds(1), comes([]), state(), comes([13] * 17),
+                    round_of(1, 1))
+        self.assertEqual(found, [[0], [-22], [2], [-22], [2], [-22], [2, 1], [-22], [1, 2]])
 
     def test_what_is_handed_in_is_the_same_afterwards(self):
         for seed in range(20):
@@ -99,6 +126,8 @@ class Lists(unittest.TestCase):
         self.assertEqual(answers(begin(3, 2) + lead(1)), [1, 0, 2, 1, 2])
         self.assertEqual(answers(lead(1)), [1, -11])
         self.assertEqual(answers(begin(2, 0) + lead(1)), [1, -22, 1, -11])
+        self.assertEqual(answers(begin(5, 4) + inner()), [1, 0, 2, 25, 16])
+        self.assertEqual(answers(state() + inner() + begin(5, 4) + state()), [1, -11, 1, -11, 1, 0, 2, 5, 4])
 
     def test_a_list_of_whole_numbers(self):
         given = answers(joined(any_list(random.Random(9), 400)[0]))
